@@ -1,0 +1,1 @@
+"""Flushtold: writes that are told as done together."""
