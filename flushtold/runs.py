@@ -54,12 +54,17 @@ def are_aboard(writes, thing):
     return True
 
 
+def named_result(count, total):
+    """Return the result of a flush that carried so many of all the writes aboard."""
+    # With nobody aboard they are all of these, though they are none of them, too.
+    if count == total:
+        return "all"
+    return "some" if count else "none"
+
+
 def result_of(writes, carried):
     """Return the result of a flush that carried these of the writes aboard."""
-    # With nobody aboard they are all of these, though they are none of them, too.
-    if len(carried) == len([write for write in writes if write[0] == "going"]):
-        return "all"
-    return "some" if carried else "none"
+    return named_result(len(carried), len([write for write in writes if write[0] == "going"]))
 
 
 def lead_rule(log, report):

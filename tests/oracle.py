@@ -11,6 +11,18 @@ class Run:
         self.flying = False
         self.lead = None
 
+    def copy(self):
+        other = Run.__new__(Run)
+        other.__dict__.update(self.__dict__)
+        other.writes = [{**write, 'words': list(write['words'])} for write in self.writes]
+        return other
+
+    def behind(self, event):
+        """Return another run that goes on with the event."""
+        other = self.copy()
+        other.apply(event)
+        return other
+
     def standing_at(self, *places):
         return [at for at, write in enumerate(self.writes) if write['place'] in places]
 

@@ -29,6 +29,24 @@ def nested(wrap, levels):
     return thing
 
 
+def log_with(table=PLAIN, lead=('next', 'free'), ends=(('all', 'good'), ('none', 'bad')), stops=True, seen=('kept',)):
+    """Return a log with these parts, those of LOG if none are given."""
+    return (table, lead, ends, stops, seen)
+
+
+def drawn_log(draw):
+    """Return a log with parts that are drawn, more often places from which writes move on."""
+    def row():
+        places = draw.choice((PLACES, ('new', 'going')))
+        return tuple((draw.choice(places), draw.choice(WORDS)) for _ in range(2))
+
+    begin = row() if draw.random() < 0.5 else (('going', draw.choice(WORDS)), ('going', ''))
+    table = (draw.choice(WORDS), begin, row(), row())
+    ends = draw.choice(subsets(ALL_ENDS)) if draw.random() < 0.5 else ALL_ENDS
+    lead = (draw.choice(LEADS), draw.choice(LEADS))
+    return (table, lead, ends, draw.random() < 0.8, draw.choice(subsets(SEEN_PLACES)))
+
+
 # Objects that are no cell, no table, no log, no event, no run, no index and no text of a log.
 ODD = [
     None, True, False, 10 ** 39, -1, -10 ** 39, '', 'x', 'new ', ' yes', 'New', 'a\tb', '\n', '~' * 5000,
@@ -71,3 +89,6 @@ def other_shapes(thing):
         found.append(put(thing, path, list(part)))
         found.append(put(thing, path, dict(enumerate(part))))
     return found
+
+
+NO_LOGS = [put(LOG, (3,), 1), put(LOG, (2,), ALL_ENDS[::-1]), LOG[:4], PLAIN, list(LOG), *other_shapes(LOG), *ODD]

@@ -3,7 +3,7 @@
 import inspect
 import unittest
 
-from flushtold import logs, runs, texts
+from flushtold import faults, logs, pairs, papers, runs, standings, texts
 
 FUNCTIONS = [
     (logs, 'is_cell', ['thing']), (logs, 'is_table', ['thing']), (logs, 'is_log', ['thing']),
@@ -11,6 +11,13 @@ FUNCTIONS = [
     (texts, 'format_log', ['log']), (texts, 'parse_log', ['text']),
     (runs, 'can_be', ['log', 'events', 'event']), (runs, 'left_by', ['log', 'events']),
     (runs, 'marked', ['log', 'events', 'index']),
+    (standings, 'is_standing', ['thing']), (standings, 'standings', ['log']),
+    (standings, 'run_to', ['log', 'standing']), (standings, 'is_closed', ['log', 'thing']),
+    (faults, 'faults', ['log']), (faults, 'fault_run', ['log', 'fault']),
+    (papers, 'is_paper', ['log', 'fault', 'thing']), (papers, 'paper', ['log', 'fault']),
+    (papers, 'can_wait', ['log', 'standing']),
+    (pairs, 'has_gap', ['log']), (pairs, 'has_turned', ['log']),
+    (pairs, 'gap_run', ['log']), (pairs, 'turned_run', ['log']),
 ]
 
 

@@ -6,7 +6,7 @@ from itertools import product
 
 from flushtold.errors import InvalidIndex, InvalidLog, InvalidRun
 from flushtold.runs import can_be, left_by, marked
-from samples import ALL_ENDS, LOG, ODD, PLAIN, other_shapes, put
+from samples import ALL_ENDS, LOG, NO_LOGS, ODD, PLAIN, put
 
 WRITE = ('write',)
 STOP = ('stop',)
@@ -568,7 +568,6 @@ class MarkedTests(RunTestCase):
 
 class ErrorTests(RunTestCase):
 
-    NO_LOGS = [put(LOG, (3,), 1), put(LOG, (2,), ALL_ENDS[::-1]), LOG[:4], PLAIN, list(LOG), *other_shapes(LOG), *ODD]
     NO_RUNS = [
         tuple(RUN), tuple([]), WRITE, 'write', ['write'], [['write']], [list(event) for event in RUN], [WRITE, None],
         [WRITE, STOP, ('begin', 0)], RUN[1:], RUN[:2] + RUN[1:], RUN + RUN[3:], [[WRITE]], [RUN], {0: WRITE},
@@ -577,7 +576,7 @@ class ErrorTests(RunTestCase):
     ]
 
     def test_no_log(self):
-        for log in self.NO_LOGS:
+        for log in NO_LOGS:
             with self.assertRaises(InvalidLog):
                 can_be(log, [], WRITE)
             with self.assertRaises(InvalidLog):

@@ -7,20 +7,7 @@ from itertools import combinations, product
 from flushtold.errors import InvalidRun
 from flushtold.runs import can_be, left_by, marked
 from oracle import Run
-from samples import ALL_ENDS, LEADS, PLACES, SEEN_PLACES, WORDS, subsets
-
-
-def drawn_log(draw):
-    """Return a log with parts that are drawn, more often places from which writes move on."""
-    def row():
-        places = draw.choice((PLACES, ('new', 'going')))
-        return tuple((draw.choice(places), draw.choice(WORDS)) for _ in range(2))
-
-    begin = row() if draw.random() < 0.5 else (('going', draw.choice(WORDS)), ('going', ''))
-    table = (draw.choice(WORDS), begin, row(), row())
-    ends = draw.choice(subsets(ALL_ENDS)) if draw.random() < 0.5 else ALL_ENDS
-    lead = (draw.choice(LEADS), draw.choice(LEADS))
-    return (table, lead, ends, draw.random() < 0.8, draw.choice(subsets(SEEN_PLACES)))
+from samples import drawn_log
 
 
 def candidates(count):
