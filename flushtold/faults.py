@@ -1,8 +1,8 @@
 """The faults of one write: which of them a log has, and shortest runs that show them."""
 
 from flushtold.errors import InvalidFault
-from flushtold.logs import check_log
-from flushtold.standings import calmly_behind, explored_alone, run_to_crowd, standing_in
+from flushtold.logs import check_log, is_rising
+from flushtold.standings import calmly_behind, explored_alone, reached, run_to_crowd, standing_in
 
 # The faults of one write, ascending.
 FAULTS = ("ahead", "ghost", "lost", "silent", "twice")
@@ -14,6 +14,14 @@ def check_fault(thing):
     """Raise InvalidFault if any object is none of the faults of one write."""
     if thing not in FAULTS:
         raise InvalidFault("this is no fault of one write")
+
+
+def check_wanted(thing):
+    """Raise InvalidFault if any object is no ascending list of different faults of one write, at least one."""
+    if not isinstance(thing, list) or len(thing) == 0 or not all([part in FAULTS for part in thing]):
+        raise InvalidFault("this is no list of faults of one write")
+    if not is_rising(thing):
+        raise InvalidFault("the faults are not ascending and different")
 
 
 def is_here(standing):
@@ -103,11 +111,20 @@ def showing(log, fault, things):
     return [standing for standing in things if shows_twice(standing)]
 
 
+def faults_among(log, things, asked):
+    """Return those of the faults that are asked for that some of the standings show, in their order."""
+    return [fault for fault in asked if showing(log, fault, things)]
+
+
 def faults(log):
     """Return the ascending list of the faults of one write that the log has."""
     check_log(log)
-    reached = [standing_in(crowd) for crowd in explored_alone(log)]
-    return [fault for fault in FAULTS if showing(log, fault, reached)]
+    return faults_among(log, reached(log), FAULTS)
+
+
+def has_any(log, wanted):
+    """Return whether the log has one of the faults."""
+    return faults_among(log, reached(log), wanted) != []
 
 
 def fault_run(log, fault):

@@ -95,6 +95,11 @@ def cell_of(table, event, place):
     return cell_at(table, event, place)
 
 
+def with_parts(log, table, ends, seen):
+    """Return the log with this table, these ends and these places that readers see."""
+    return (table, log[1], ends, log[3], seen)
+
+
 def with_cell(table, event, place, cell):
     """Return the table with this cell for the event and the place."""
     check_cell_place(table, event, place)

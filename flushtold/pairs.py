@@ -1,6 +1,6 @@
 """The faults of two writes, gaps and turned tellings, over crowds of two marks."""
 
-from flushtold.crowds import first_crowd
+from flushtold.crowds import first_crowd, steps_from
 from flushtold.faults import is_here, was_told, was_told_nothing
 from flushtold.logs import MOVING, check_log
 from flushtold.searches import explored, run_of, steps_to
@@ -44,7 +44,10 @@ def pair_run(log, shows, may_show, more):
 
     shows tells of a crowd whether it shows the fault, may_show whether one behind it may.
     """
-    found = explored(log, first_crowd(2), lambda one: may_show(one) and not shows(one))
+    found = explored(
+        [first_crowd(2)],
+        lambda crowd: steps_from(log, crowd) if may_show(crowd) and not shows(crowd) else [],
+    )
     # Crowds of fewer steps stand ahead, so that the first one is the nearest.
     for crowd in found:
         if shows(crowd):

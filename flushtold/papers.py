@@ -16,8 +16,8 @@ def paper(log, fault):
     """Return a paper that the log has not the fault, or None if it has it."""
     check_log(log)
     check_fault(fault)
-    reached = standings(log)
-    return None if showing(log, fault, reached) else reached
+    found = standings(log)
+    return None if showing(log, fault, found) else found
 
 
 def can_wait(log, standing):

@@ -7,6 +7,16 @@ from flushtold.errors import InvalidIndex, InvalidRun
 from flushtold.logs import MOVING, REPORTS, cell_at, check_log
 
 
+def first_state():
+    """Return the state behind no event."""
+    return ([], False, None)
+
+
+def copied(event):
+    """Return an event that can be, with a list of its own."""
+    return ("end", list(event[1]), event[2], event[3]) if event[0] == "end" else event
+
+
 def is_index(thing, writes):
     """Return whether any object is the index of one of the writes."""
     return isinstance(thing, int) and not isinstance(thing, bool) and 0 <= thing < len(writes)
@@ -149,7 +159,7 @@ def state_left(log, events):
     check_log(log)
     if not isinstance(events, list):
         raise InvalidRun("a run is a list of events")
-    state = ([], False, None)
+    state = first_state()
     for index, event in enumerate(events):
         if not can_come(log, state, event):
             raise InvalidRun(f"the entry {index} of the run can not be there")

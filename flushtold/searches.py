@@ -1,27 +1,31 @@
 """Searches over crowds: to which ones steps lead, and runs of events that take these steps."""
 
 from flushtold.crowds import steps_from
-from flushtold.runs import place_behind, state_behind
+from flushtold.runs import first_state, place_behind, state_behind
 
 
-def explored(log, first, goes_on):
-    """Return a dict of the crowds to which steps lead from the first one, those of fewer steps ahead.
+def explored(starts, steps_of):
+    """Return a dict of the crowds to which steps lead from the starts, those of fewer steps ahead.
 
-    The value of a crowd is the tuple (crowd, step) that leads to it, that of the first one None. Steps are taken
-    only from crowds of which the function goes_on tells so.
+    The value of a crowd is the tuple (crowd, step) that leads to it, that of a start None. The function steps_of
+    gives the steps from a crowd, as steps_from does.
     """
-    found = {first: None}
-    layer = [first]
+    found = {start: None for start in starts}
+    layer = list(found)
     while layer:
         fresh = []
         for crowd in layer:
-            steps = steps_from(log, crowd) if goes_on(crowd) else []
-            for step, behind in steps:
+            for step, behind in steps_of(crowd):
                 if behind not in found:
                     found[behind] = (crowd, step)
                     fresh.append(behind)
         layer = fresh
     return found
+
+
+def explored_from(log, starts):
+    """Return the dict of all crowds to which the log's steps lead from the starts, as explored tells it."""
+    return explored(starts, lambda crowd: steps_from(log, crowd))
 
 
 def steps_to(found, crowd):
@@ -81,7 +85,7 @@ def event_of(log, state, spots, step):
 
 def run_of(log, steps):
     """Return a run that takes the steps, and the indexes of the marked writes that come in it."""
-    state = ([], False, None)
+    state = first_state()
     events = []
     spots = []
     for step in steps:

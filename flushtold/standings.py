@@ -3,7 +3,7 @@
 from flushtold.crowds import calm_steps, first_crowd, steps_from
 from flushtold.errors import InvalidStanding
 from flushtold.logs import MOVING, check_log, is_tuple
-from flushtold.searches import explored, run_of, steps_to
+from flushtold.searches import explored_from, run_of, steps_to
 
 STANDS = ("none", "new", "going", "kept", "gone", "lost")
 TOLD = ("nothing", "yes", "no", "yes yes", "no no", "yes no")
@@ -64,13 +64,18 @@ def standing_in(crowd):
 
 def explored_alone(log):
     """Return the dict of all crowds of one mark to which runs lead, as explored tells it."""
-    return explored(log, first_crowd(1), lambda one: True)
+    return explored_from(log, [first_crowd(1)])
+
+
+def reached(log):
+    """Return the standings to which runs lead, those of fewer events ahead."""
+    return [standing_in(crowd) for crowd in explored_alone(log)]
 
 
 def standings(log):
     """Return the ascending list of all standings to which runs lead."""
     check_log(log)
-    return sorted([standing_in(crowd) for crowd in explored_alone(log)])
+    return sorted(reached(log))
 
 
 def run_to_crowd(log, found, crowd, more):

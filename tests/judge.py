@@ -1,6 +1,7 @@
 """An independent judge of standings and faults: it plays runs, write by write, by oracle.py and by the words of
 [7], [8] and [9], without any of the package's searches."""
 
+from functools import lru_cache
 from itertools import product
 
 from oracle import Run
@@ -207,6 +208,7 @@ def behind_standing(log, standing):
     return found
 
 
+@lru_cache(maxsize=64)
 def distances(log):
     """Return a dict of all standings to which events lead to the fewest events that do."""
     found, layer, count = {FIRST: 0}, [FIRST], 0

@@ -92,3 +92,15 @@ def other_shapes(thing):
 
 
 NO_LOGS = [put(LOG, (3,), 1), put(LOG, (2,), ALL_ENDS[::-1]), LOG[:4], PLAIN, list(LOG), *other_shapes(LOG), *ODD]
+
+NO_FAULTS = [
+    '', 'gap', 'turned', 'Lost', 'lost ', ' lost', 'los', 'yes', 'none', ('lost',), ['lost'], ['ahead', 'lost'],
+    {'lost': 'lost'}, *ODD,
+]
+# Objects that are no ascending list of different faults, at least one.
+NO_WANTED = [
+    [], (), ('lost',), ('ghost', 'lost'), 'lost', 'ghost lost', {'lost': True}, ['lost', 'lost'], ['lost', 'ghost'],
+    ['ghost', 'lost', 'lost'], ['ahead', 'ahead', 'lost'], ['twice', 'silent', 'lost', 'ghost', 'ahead'], ['gap'],
+    ['gap', 'lost'], ['lost', 'turned'], ['Lost'], ['lost '], [''], ['none'], [['lost']], [('lost',)], ['lost', None],
+    [None, 'lost'], [0], [True], ['ghost', 1], [{}], [['ghost'], ['lost']], (['lost'],), *ODD,
+]

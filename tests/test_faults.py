@@ -8,7 +8,7 @@ from flushtold.errors import InvalidFault, InvalidLog
 from flushtold.faults import fault_run, faults
 from flushtold.runs import left_by
 from judge import FAULTS, distances, played, short_runs, shown_by, shows
-from samples import ALL_ENDS, LOG, NO_LOGS, ODD, PLAIN, SEEN_PLACES, drawn_log, log_with, put
+from samples import ALL_ENDS, LOG, NO_FAULTS, NO_LOGS, PLAIN, SEEN_PLACES, drawn_log, log_with, put
 
 ENDS = (('all', 'bad'), ('all', 'good'), ('none', 'bad'), ('some', 'good'))
 ALL_GOOD = (('all', 'good'),)
@@ -16,10 +16,6 @@ WRITE = ('write',)
 STOP = ('stop',)
 # The cells of PLAIN, by the paths to them.
 BEGIN_NEW, BEGIN_GOING, GOOD_NEW, GOOD_GOING, BAD_NEW, BAD_GOING = [(row, at) for row in (1, 2, 3) for at in (0, 1)]
-NO_FAULTS = [
-    '', 'gap', 'turned', 'Lost', 'lost ', ' lost', 'los', 'yes', 'none', ('lost',), ['lost'], ['ahead', 'lost'],
-    {'lost': 'lost'}, *ODD,
-]
 
 
 def table_with(*changes):

@@ -3,7 +3,7 @@
 import inspect
 import unittest
 
-from flushtold import faults, logs, pairs, papers, runs, standings, texts
+from flushtold import counts, ends, faults, logs, mends, pairs, papers, readers, runs, standings, texts
 
 FUNCTIONS = [
     (logs, 'is_cell', ['thing']), (logs, 'is_table', ['thing']), (logs, 'is_log', ['thing']),
@@ -18,6 +18,10 @@ FUNCTIONS = [
     (papers, 'can_wait', ['log', 'standing']),
     (pairs, 'has_gap', ['log']), (pairs, 'has_turned', ['log']),
     (pairs, 'gap_run', ['log']), (pairs, 'turned_run', ['log']),
+    (counts, 'fewest_writes', ['log', 'fault']), (counts, 'most_flushes', ['log']), (counts, 'calm_flushes', ['log']),
+    (ends, 'greatest_ends', ['log', 'wanted']), (ends, 'least_ends', ['log', 'wanted']),
+    (mends, 'asked_cells', ['log']), (mends, 'mends', ['log', 'event', 'place', 'wanted']),
+    (readers, 'greatest_seen', ['log']), (readers, 'may_read', ['log', 'events', 'place']),
 ]
 
 
