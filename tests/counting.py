@@ -125,3 +125,14 @@ def quiet_log(draw):
     table = ('', row(('going', 'going', 'new')), row(PLACES), row(PLACES))
     ends = draw.choice(subsets(ALL_ENDS))
     return (table, (draw.choice(LEADS), draw.choice(LEADS)), ends, draw.random() < 0.3, draw.choice(subsets(SEEN_PLACES)))
+
+
+def let_come(live, event):
+    """Let an event come in a live log, and return what the call returns."""
+    if event[0] == 'write':
+        return live.write()
+    if event[0] == 'begin':
+        return live.begin(event[1])
+    if event[0] == 'end':
+        return live.end(*event[1:])
+    return live.stop()
