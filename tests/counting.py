@@ -1,7 +1,7 @@
 """An independent judge of counts: it plays all runs of few writes by oracle.py, and follows waiting standings by the
 steps of judge.py, without any of the package's searches."""
 
-from judge import FIRST, TOLD, calm_events, distances, faults_by_stop, faults_shown, states_of
+from judge import TOLD, calm_events, distances, faults_by_stop, faults_shown, states_of
 from oracle import Run
 from samples import ALL_ENDS, LEADS, PLACES, SEEN_PLACES, subsets
 
@@ -124,7 +124,8 @@ def quiet_log(draw):
 
     table = ('', row(('going', 'going', 'new')), row(PLACES), row(PLACES))
     ends = draw.choice(subsets(ALL_ENDS))
-    return (table, (draw.choice(LEADS), draw.choice(LEADS)), ends, draw.random() < 0.3, draw.choice(subsets(SEEN_PLACES)))
+    lead = (draw.choice(LEADS), draw.choice(LEADS))
+    return (table, lead, ends, draw.random() < 0.3, draw.choice(subsets(SEEN_PLACES)))
 
 
 def let_come(live, event):

@@ -158,7 +158,7 @@ class MostFlushesTests(unittest.TestCase):
         # Those aboard stay there, and the next flush, which needs a new one to begin, takes them back.
         slow = ('', (('going', ''), ('new', '')), (('kept', 'yes'), ('going', '')), (('new', ''), ('gone', '')))
         self.both(log_with(slow, ('free', 'free'), ALL_GOOD, False), 2, 1)
-        both = ('', (('going', ''), ('new', 'no')), (('new', 'yes'), ('kept', '')), (('going', 'yes'), ('going', 'yes')))
+        both = ('', (('going', ''), ('new', 'no')), (('new', 'yes'), ('kept', '')), (('new', 'yes'), ('going', 'yes')))
         self.both((both, ('next', 'free'), (('all', 'bad'), ('none', 'bad'), ('some', 'good')), False, ()), None, 2)
 
     def test_for_ever_by_bad_reports(self):

@@ -4,7 +4,8 @@ import inspect
 import unittest
 
 from flushtold import (
-    counts, ends, errors, faults, live, logs, mends, pairs, papers, readers, runs, serving, shell, standings, stories, texts,
+    counts, ends, errors, faults, live, logs, mends, pairs, papers, readers, runs, serving, shell, standings, stories,
+    texts,
 )
 
 FUNCTIONS = [
@@ -38,7 +39,8 @@ METHODS = [
 ]
 PROPERTIES = [(live.Live, name) for name in ('events', 'writes', 'flying', 'lead')]
 CLASSES = [(live, 'Live'), (shell, 'Shell')] + [(errors, name) for name in (
-    'FlushError', 'ParseError', 'CannotBe', 'DuplicateName', 'InvalidCell', 'InvalidEvent', 'InvalidFault', 'InvalidIndex',
+    'FlushError', 'ParseError', 'CannotBe', 'DuplicateName', 'InvalidCell', 'InvalidEvent', 'InvalidFault',
+    'InvalidIndex',
     'InvalidLine', 'InvalidLog', 'InvalidName', 'InvalidPlace', 'InvalidRun', 'InvalidStanding', 'InvalidStory',
     'InvalidTable', 'NothingToUndo', 'UnknownLog',
 )]

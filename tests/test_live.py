@@ -356,7 +356,8 @@ class NewTests(LiveTestCase):
         self.assertEqual(live.events, expected)
         self.is_at(live, LOOSE, expected)
         self.assertEqual(live.risk(), ['ahead', 'lost'])
-        lists = [event[1] for told in (live.events, live.events, live.copy().events) for event in told if event[0] == 'end']
+        told = live.events + live.events + live.copy().events
+        lists = [event[1] for event in told if event[0] == 'end']
         self.assertEqual(len(lists), len({id(one) for one in lists}))
 
     def test_a_list_that_the_caller_changes(self):

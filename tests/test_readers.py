@@ -15,7 +15,9 @@ from samples import ALL_ENDS, LEADS, LOG, NO_LOGS, ODD, PLAIN, SEEN_PLACES, draw
 ALL_GOOD = (('all', 'good'),)
 WRITE = ('write',)
 STOP = ('stop',)
-NO_PLACES = ['', 'lost', 'none', 'New', 'new ', 'go', 'yes', 'begin', ('new',), ['new'], ['new', 'kept'], {'new': 1}, *ODD]
+NO_PLACES = [
+    '', 'lost', 'none', 'New', 'new ', 'go', 'yes', 'begin', ('new',), ['new'], ['new', 'kept'], {'new': 1}, *ODD,
+]
 NO_RUNS = [
     (), (WRITE,), [('begin', 0)], [STOP, ('end', [], 'good', None)], [WRITE, ('begin', 1)], [WRITE, ('begin', True)],
     [['write']], ['write'], [None], None, 'write', {'write': 1}, {0: WRITE}, [WRITE, ('begin', 0), ('begin', 0)],

@@ -17,7 +17,6 @@ from samples import (
 
 ALL_GOOD = ('all', 'good')
 WRITE = ('write',)
-STOP = ('stop',)
 ENDS = (('all', 'good'), ('none', 'bad'))
 
 
@@ -203,7 +202,8 @@ class ServesTests(ServingTestCase):
     def test_logs_that_serve(self):
         self.assertIs(serves(LOG), True)
         self.assertIs(serves(log_with(ends=())), True)
-        self.assertIs(serves(log_with(('yes', *put(PLAIN, (2, 1), ('kept', ''))[1:]), ends=(ALL_GOOD,), stops=False)), True)
+        prompt = ('yes', *put(PLAIN, (2, 1), ('kept', ''))[1:])
+        self.assertIs(serves(log_with(prompt, ends=(ALL_GOOD,), stops=False)), True)
 
     def test_one_thing_that_is_wrong(self):
         for log, found in (
@@ -282,8 +282,10 @@ class ErrorTests(unittest.TestCase):
 
     def test_no_ends(self):
         for ends in [
-            list(ENDS), ENDS[::-1], (*ENDS, ENDS[1]), (('all', 'good', 'bad'),), (['all', 'good'],), ('all', 'good'), 'all',
-            (('good', 'all'),), (('all', 'Good'),), (('any', 'good'),), ((),), (None,), None, {}, dict(ENDS), {ENDS[0]: 1},
+            list(ENDS), ENDS[::-1], (*ENDS, ENDS[1]), (('all', 'good', 'bad'),), (['all', 'good'],), ('all', 'good'),
+            'all',
+            (('good', 'all'),), (('all', 'Good'),), (('any', 'good'),), ((),), (None,), None, {}, dict(ENDS),
+            {ENDS[0]: 1},
             *[thing for thing in ODD if thing != ()],
         ]:
             for stops in (False, True):
@@ -298,7 +300,8 @@ class ErrorTests(unittest.TestCase):
 
     def test_no_places(self):
         for seen in [
-            [], ['kept'], ('kept', 'gone'), ('kept', 'kept'), ('lost',), ('none',), ('kept', None), 'kept', ('Kept',), (('kept',),),
+            [], ['kept'], ('kept', 'gone'), ('kept', 'kept'), ('lost',), ('none',), ('kept', None), 'kept', ('Kept',),
+            (('kept',),),
             None, True, {}, {'kept': 1}, ('new', 'kept'), *[thing for thing in ODD if thing != ()],
         ]:
             for stops in (False, True):

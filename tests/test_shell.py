@@ -22,8 +22,14 @@ WORDS = {
     'undo': 2, 'logs': 1,
 }
 TAILS = ['main', '0', 'good', '-', 'main', '1', '2']
-NO_INDEXES = ['00', '01', '-1', '+0', '+1', '-0', '1234567890', '0000000000', '0x0', '1.0', '1e0', 'zero', '-', 'None', '0,', ',', '0_0']
-NO_NAMES = ['Main', 'main1', '1', '-', 'ma-in', 'ma_in', 'ninechars', 'a' * 9, 'mAin', 'm\tn', '\t', 'main\t', 'main,', '~', '"main"']
+NO_INDEXES = [
+    '00', '01', '-1', '+0', '+1', '-0', '1234567890', '0000000000', '0x0', '1.0', '1e0', 'zero', '-', 'None', '0,', ',',
+    '0_0',
+]
+NO_NAMES = [
+    'Main', 'main1', '1', '-', 'ma-in', 'ma_in', 'ninechars', 'a' * 9, 'mAin', 'm\tn', '\t', 'main\t', 'main,', '~',
+    '"main"',
+]
 
 
 def text_of(log):
@@ -225,8 +231,10 @@ class InvalidLineTests(ShellTestCase):
     def test_spaces_and_line_feeds(self):
         shell = shell_with(LOG, 'write main')
         for line in (
-            '', ' ', '  ', '\n', 'logs ', ' logs', 'logs\n', '\nlogs', 'lo\ngs', 'write  main', ' write main', 'write main ',
-            'write main\n', 'write\nmain', 'write \nmain', 'begin main  0', 'begin main 0 ', 'begin main 0\n', 'begin main \n',
+            '', ' ', '  ', '\n', 'logs ', ' logs', 'logs\n', '\nlogs', 'lo\ngs', 'write  main', ' write main',
+            'write main ',
+            'write main\n', 'write\nmain', 'write \nmain', 'begin main  0', 'begin main 0 ', 'begin main 0\n',
+            'begin main \n',
             'write ', 'words main ', 'end main  good -', 'end main 0 good ', 'open main ', f'open  {MAIN}',
             f'open other {MAIN}\n', f'open other {MAIN} ', format_log(LOG), f'open other {format_log(LOG)}',
         ):
@@ -234,7 +242,7 @@ class InvalidLineTests(ShellTestCase):
 
     def test_ahead_of_all_other_errors(self):
         shell = Shell()
-        for line in ('open Main x y', 'write nobody 0', 'close', 'undo', 'begin nobody', 'end nobody 0 good', 'open Main'):
+        for line in ('open Main x y', 'write nobody 0', 'close', 'undo', 'begin nobody', 'end nobody 0', 'open Main'):
             self.wrong(shell, line)
 
 
@@ -257,7 +265,8 @@ class RefusalTests(ShellTestCase):
         lines = MAIN.split('/')
         for text, at in (
             ('x', 0), ('-', 0), ('/', 0), (',', 0), (MAIN + '/', 8), (MAIN + ',', 7), (',' + MAIN, 0), ('/' + MAIN, 0),
-            (MAIN.replace('/', '//', 1), 1), (MAIN.replace(',', ',,', 1), 0), (MAIN.upper(), 0), ('/'.join(lines[:7]), 7),
+            (MAIN.replace('/', '//', 1), 1), (MAIN.replace(',', ',,', 1), 0), (MAIN.upper(), 0),
+            ('/'.join(lines[:7]), 7),
             ('/'.join(lines[:1]), 1), (MAIN.replace('stops,yes', 'stops,maybe'), 6), (MAIN.replace('/', ','), 0),
             (MAIN.replace('new:none', 'new:maybe'), 2), (MAIN.replace('seen,kept', 'seen,lost'), 7), ('come\tnone', 0),
             (MAIN.replace('all:good,some:good', 'some:good,all:good'), 5), (MAIN.replace('next', 'last'), 4),
@@ -275,7 +284,8 @@ class RefusalTests(ShellTestCase):
         shell = shell_with()
         for name in ('nobody', 'mai', 'mainn', 'Main', '0', '-', 'main\t', *NO_NAMES):
             for line in (
-                'close {}', 'write {}', 'begin {} 0', 'begin {} x', 'end {} 0 good -', 'end {} x y z', 'stop {}', 'words {} 0',
+                'close {}', 'write {}', 'begin {} 0', 'begin {} x', 'end {} 0 good -', 'end {} x y z', 'stop {}',
+                'words {} 0',
                 'words {} x', 'writes {}', 'faults {}', 'risk {}', 'undo {}',
             ):
                 self.refuses(shell, line.format(name), UnknownLog)
@@ -303,7 +313,8 @@ class RefusalTests(ShellTestCase):
     def test_carried_that_are_not_ascending_or_twice(self):
         shell = shell_with(log_with(ends=ALL_ENDS), 'write main', 'write main', 'write main', 'begin main 1')
         for carried in (
-            '1,0', '0,2,1', '0,0', '0,1,1', '0,1,2,2', '0,,1', ',0', '0,', ',', '0,-', '-,0', '--', '-,-', '0,01', '+0,1',
+            '1,0', '0,2,1', '0,0', '0,1,1', '0,1,2,2', '0,,1', ',0', '0,', ',', '0,-', '-,0', '--', '-,-', '0,01',
+            '+0,1',
             '0;1', '[0]', '0,3', '3', 'none', 'all', '0:1', '00', '0,1,2,3',
         ):
             self.refuses(shell, f'end main {carried} good -', CannotBe)

@@ -31,7 +31,8 @@ NO_LISTS = [
 NO_ENTRIES = [
     [WRITE, []], (WRITE,), (WRITE, [], []), (WRITE, ()), (WRITE, None), (WRITE, {}), (WRITE, ''), (WRITE, [()]),
     (WRITE, [None]), (WRITE, [(0,)]), (WRITE, [(0, '')]), (WRITE, [(0, 'yes')]), (WRITE, [(0, 'no')]), (['write'], []),
-    ('write', []), (('write', 0), []), (None, []), ((), []), ([], WRITE), WRITE, 'write', {WRITE[0]: []}, (STOP, [(0, 'no')]),
+    ('write', []), (('write', 0), []), (None, []), ((), []), ([], WRITE), WRITE, 'write', {WRITE[0]: []},
+    (STOP, [(0, 'no')]),
     (('begin', 0), []), (('end', [], 'good', None), []), *ODD,
 ]
 
@@ -148,7 +149,8 @@ class UnlikeTests(StoryTestCase):
     def test_a_telling_is_left_out_put_in_or_turned(self):
         end = TOLD[3][0]
         for tellings in (
-            [], [(0, 'no')], [(1, 'yes')], [(0, 'yes'), (0, 'yes')], [(0, 'yes'), (1, 'yes')], [(0, '')], [(0, 'yes'), None],
+            [], [(0, 'no')], [(1, 'yes')], [(0, 'yes'), (0, 'yes')], [(0, 'yes'), (1, 'yes')], [(0, '')],
+            [(0, 'yes'), None],
             [('yes', 0)], [(2, 'yes')], [(-1, 'yes')], [(0, 'Yes')], [(0, 'yes', 1)], [(0,)], [()],
         ):
             self.unlike(LOG, [*TOLD[:3], (end, tellings), *TOLD[4:]], 3)
@@ -277,7 +279,8 @@ class ErrorTests(unittest.TestCase):
 
     def test_no_run(self):
         for events in [
-            (), (WRITE,), None, [None], [('begin', 0)], [WRITE, ('begin', True)], RUN[1:], RUN + [('begin', 0)], 'write', TOLD,
+            (), (WRITE,), None, [None], [('begin', 0)], [WRITE, ('begin', True)], RUN[1:], RUN + [('begin', 0)],
+            'write', TOLD,
             [WRITE, ('begin', 0), ('end', (0,), 'good', None)], [['write']], [[WRITE]], {}, {0: WRITE},
             *[thing for thing in ODD if thing != []],
         ]:

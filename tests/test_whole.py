@@ -1,4 +1,4 @@
-"""[2] over the whole program: names of parameters, answers that stay, and arguments and answers that are nobody else's."""
+"""[2] over the whole program: names of parameters, answers that stay, arguments and answers that are nobody else's."""
 
 import copy
 import random
@@ -21,12 +21,11 @@ from flushtold.standings import is_closed, is_standing, run_to, standings
 from flushtold.stories import first_unlike, fitting, story
 from flushtold.texts import format_log, parse_log
 from counting import drawn_run, let_come
-from samples import LOG, ODD, PLAIN, drawn_log, log_with, put
+from samples import LOG, ODD, PLAIN, drawn_log, put
 
 ENDS = (('all', 'bad'), ('all', 'good'), ('none', 'bad'), ('some', 'good'))
 FAULTY = (put(PLAIN, (2, 0), ('new', 'no')), ('free', 'free'), ENDS, True, ('kept',))
 WRITE = ('write',)
-STOP = ('stop',)
 RUN = [WRITE, ('begin', 0), WRITE, ('end', [0], 'good', None), ('begin', 1), ('end', [], 'bad', None), WRITE]
 STANDING = ('kept', True, 'yes', 1, 0, False, 'none')
 KINDS = {
@@ -45,15 +44,19 @@ def questions():
         (cell_of, {'table': PLAIN, 'event': 'good', 'place': 'going'}),
         (with_cell, {'table': PLAIN, 'event': 'bad', 'place': 'new', 'cell': ('kept', 'no')}),
         (format_log, {'log': LOG}), (parse_log, {'text': format_log(FAULTY)}),
-        (can_be, {'log': FAULTY, 'events': list(RUN), 'event': ('begin', 2)}), (left_by, {'log': FAULTY, 'events': list(RUN)}),
+        (can_be, {'log': FAULTY, 'events': list(RUN), 'event': ('begin', 2)}),
+        (left_by, {'log': FAULTY, 'events': list(RUN)}),
         (marked, {'log': FAULTY, 'events': list(RUN), 'index': 1}), (is_standing, {'thing': STANDING}),
         (standings, {'log': FAULTY}), (run_to, {'log': FAULTY, 'standing': STANDING}),
         (is_closed, {'log': FAULTY, 'thing': standings(FAULTY)}), (faults, {'log': FAULTY}),
-        (fault_run, {'log': FAULTY, 'fault': 'twice'}), (is_paper, {'log': LOG, 'fault': 'lost', 'thing': standings(LOG)}),
+        (fault_run, {'log': FAULTY, 'fault': 'twice'}),
+        (is_paper, {'log': LOG, 'fault': 'lost', 'thing': standings(LOG)}),
         (paper, {'log': LOG, 'fault': 'silent'}), (can_wait, {'log': FAULTY, 'standing': STANDING}),
-        (has_gap, {'log': FAULTY}), (has_turned, {'log': FAULTY}), (gap_run, {'log': FAULTY}), (turned_run, {'log': FAULTY}),
+        (has_gap, {'log': FAULTY}), (has_turned, {'log': FAULTY}), (gap_run, {'log': FAULTY}),
+        (turned_run, {'log': FAULTY}),
         (fewest_writes, {'log': FAULTY, 'fault': 'twice'}), (most_flushes, {'log': LOG}), (calm_flushes, {'log': LOG}),
-        (greatest_ends, {'log': FAULTY, 'wanted': ['ghost', 'lost']}), (least_ends, {'log': FAULTY, 'wanted': ['ghost', 'lost']}),
+        (greatest_ends, {'log': FAULTY, 'wanted': ['ghost', 'lost']}),
+        (least_ends, {'log': FAULTY, 'wanted': ['ghost', 'lost']}),
         (asked_cells, {'log': FAULTY}), (mends, {'log': FAULTY, 'event': 'good', 'place': 'new', 'wanted': ['twice']}),
         (greatest_seen, {'log': FAULTY}), (may_read, {'log': FAULTY, 'events': list(RUN), 'place': 'new'}),
         (story, {'log': FAULTY, 'events': list(RUN)}), (fitting, {'logs': [FAULTY, LOG], 'thing': story(FAULTY, RUN)}),
@@ -157,7 +160,7 @@ class AnswerTests(unittest.TestCase):
         for event in RUN:
             let_come(live, event)
         before = (repr(live.events), repr(live.writes), live.flying, live.lead, live.risk())
-        for call in (lambda: live.begin(9), lambda: live.end([], 'good', None), lambda: live.words(7), lambda: live.begin([])):
+        for call in (lambda: live.begin(9), lambda: live.end([], 'good', None), lambda: live.words(7)):
             with self.assertRaises(FlushError):
                 call()
         self.assertEqual((repr(live.events), repr(live.writes), live.flying, live.lead, live.risk()), before)
